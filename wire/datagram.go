@@ -1,0 +1,129 @@
+package wire
+
+import "gateway/api"
+
+// Where the parts of messages lie.
+const (
+	fromAt      = 0
+	toAt        = 2
+	udpLengthAt = 4
+	udpSumAt    = 6
+	tcpSizeAt   = 12
+	tcpFlagsAt  = 13
+	tcpSumAt    = 16
+	icmpSumAt   = 2
+)
+
+// The fewest bytes that messages have.
+const (
+	udpBytes  = 8
+	tcpBytes  = 20
+	icmpBytes = 8
+)
+
+// End is an address and a port.
+type End struct {
+	Address, Port int
+}
+
+// Datagram is a whole datagram: the ends it goes between, and its message. Of ICMP the ends' ports are 0.
+type Datagram struct {
+	Proto    int
+	From, To End
+	Message  string
+}
+
+// Whole reads the datagram that a packet is by itself.
+func Whole(p Packet) Datagram {
+	d := Datagram{
+		Proto:   p.Proto,
+		From:    End{Address: p.Src},
+		To:      End{Address: p.Dst},
+		Message: p.Body,
+	}
+	if p.Proto != api.ICMP {
+		d.From.Port = Word(p.Body, fromAt)
+		d.To.Port = Word(p.Body, toAt)
+	}
+	return d
+}
+
+// Fault is what speaks against the message, or api.Sent if nothing does.
+func (d Datagram) Fault() int {
+	if !d.formed() {
+		return api.BadBody
+	}
+	if d.hasSum() && d.sum() != maxWord {
+		return api.BadSum
+	}
+	return api.Sent
+}
+
+func (d Datagram) formed() bool {
+	size := len(d.Message)
+	if d.Proto == api.ICMP {
+		return size >= icmpBytes
+	}
+	if d.From.Port == 0 || d.To.Port == 0 {
+		return false
+	}
+	if d.Proto == api.UDP {
+		return size >= udpBytes && Word(d.Message, udpLengthAt) == size
+	}
+	header := Byte(d.Message, tcpSizeAt) / 16 * 4
+	return header >= tcpBytes && header <= size
+}
+
+// Flags are the flags of a TCP message; of others they mean nothing.
+func (d Datagram) Flags() int {
+	return Byte(d.Message, tcpFlagsAt)
+}
+
+// Between makes the datagram of TCP or UDP that carries the same between other ends.
+func (d Datagram) Between(from, to End) Datagram {
+	message := PutWord(d.Message, fromAt, from.Port)
+	message = PutWord(message, toAt, to.Port)
+	other := Datagram{Proto: d.Proto, From: from, To: to, Message: message}
+	return other.sealed()
+}
+
+func (d Datagram) sealed() Datagram {
+	if !d.hasSum() {
+		return d
+	}
+	at := d.sumAt()
+	d.Message = PutWord(d.Message, at, 0)
+	sum := maxWord - d.sum()
+	if sum == 0 && d.Proto == api.UDP {
+		// 0 would say that there is no checksum.
+		sum = maxWord
+	}
+	d.Message = PutWord(d.Message, at, sum)
+	return d
+}
+
+func (d Datagram) hasSum() bool {
+	return d.Proto != api.UDP || Word(d.Message, udpSumAt) != 0
+}
+
+func (d Datagram) sumAt() int {
+	switch d.Proto {
+	case api.TCP:
+		return tcpSumAt
+	case api.UDP:
+		return udpSumAt
+	}
+	return icmpSumAt
+}
+
+// sum is the folded sum of all words that the message's checksum is of.
+func (d Datagram) sum() int {
+	message := Sum(d.Message)
+	if d.Proto == api.ICMP {
+		return message
+	}
+	from := d.From.Address
+	to := d.To.Address
+	addresses := from>>16 + from&maxWord + to>>16 + to&maxWord
+	return Fold(message + addresses + d.Proto + len(d.Message))
+}

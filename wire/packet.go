@@ -1,0 +1,87 @@
+package wire
+
+import "gateway/api"
+
+const headerBytes = 20
+
+// Where the parts of a header lie.
+const (
+	lengthAt = 2
+	placeAt  = 6
+	livesAt  = 8
+	protoAt  = 9
+	sumAt    = 10
+	srcAt    = 12
+	dstAt    = 16
+)
+
+// The parts of the word that tells where the body lies.
+const (
+	mustBeZero = 1 << 15
+	more       = 1 << 13
+	place      = 1<<13 - 1
+)
+
+// The time to live is the high byte of its word.
+const oneLife = 1 << 8
+
+// Packet is a packet whose header is right.
+type Packet struct {
+	header   string // as it came: what goes out is made of it
+	Src, Dst int
+	Proto    int
+	Body     string
+}
+
+// Parse reads a packet. Beside it stands what speaks against it, or api.Sent if nothing does.
+func Parse(raw string) (Packet, int) {
+	if len(raw) <= headerBytes || len(raw) > api.MaxPacket {
+		return Packet{}, api.Malformed
+	}
+	p := Packet{
+		header: raw[:headerBytes],
+		Src:    Address(raw, srcAt),
+		Dst:    Address(raw, dstAt),
+		Proto:  Byte(raw, protoAt),
+		Body:   raw[headerBytes:],
+	}
+	fault := p.fault()
+	if fault != api.Sent {
+		return Packet{}, fault
+	}
+	return p, api.Sent
+}
+
+func (p Packet) fault() int {
+	if Byte(p.header, 0) != 69 || Word(p.header, lengthAt) != headerBytes+len(p.Body) {
+		return api.Malformed
+	}
+	if Word(p.header, placeAt)&mustBeZero != 0 {
+		return api.Malformed
+	}
+	if Sum(p.header) != maxWord {
+		return api.BadSum
+	}
+	if Word(p.header, placeAt)&more != 0 && len(p.Body)%8 != 0 {
+		return api.Malformed
+	}
+	if Byte(p.header, livesAt) <= 1 {
+		return api.Expired
+	}
+	return api.Sent
+}
+
+// Piece tells whether the packet is only a piece of a datagram.
+func (p Packet) Piece() bool {
+	return Word(p.header, placeAt)&(more|place) != 0
+}
+
+// Onward makes the packet that goes out for this one, with other addresses and another body of the same length.
+func (p Packet) Onward(src, dst int, body string) string {
+	header := PutAddress(p.header, srcAt, src)
+	header = PutAddress(header, dstAt, dst)
+	header = PutWord(header, livesAt, Word(header, livesAt)-oneLife)
+	header = PutWord(header, sumAt, 0)
+	header = PutWord(header, sumAt, maxWord-Sum(header))
+	return header + body
+}
