@@ -20,14 +20,35 @@ func (b *Box) route(side int, d wire.Datagram) way {
 	if fault != api.Sent {
 		return way{what: fault}
 	}
+	if d.IsError() {
+		return b.trouble(side, d)
+	}
 	if d.Proto == api.ICMP {
-		// Echoes and errors are not passed on yet.
-		return way{what: api.Unasked}
+		fault = b.echoFault(side, d)
+	}
+	if fault != api.Sent {
+		return way{what: fault}
 	}
 	if side == api.Inside {
 		return b.fromInside(d)
 	}
 	return b.fromOutside(d)
+}
+
+// echoFault is what speaks against a message of ICMP that is no error, or api.Sent if it may go by a session: echoes alone go out, and replies alone come in.
+func (b *Box) echoFault(side int, d wire.Datagram) int {
+	echo := d.IsEcho()
+	if !echo && !d.IsReply() {
+		return api.BadBody
+	}
+	if echo != (side == api.Inside) {
+		return api.Unasked
+	}
+	if echo && d.To.Address == b.config.Out {
+		// The box itself answers no echo, and no neighbour can be named by one.
+		return api.Unasked
+	}
+	return api.Sent
 }
 
 func (b *Box) fromInside(d wire.Datagram) way {

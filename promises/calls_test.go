@@ -95,6 +95,14 @@ func TestP1NearPackets(t *testing.T) {
 			if r.Intn(2) == 0 && proto == api.TCP {
 				p.body = put(p.body, 12, "\x50\x02")
 			}
+			if proto == api.ICMP {
+				p.body = put(p.body, 0, string([]byte{[]byte{0, 3, 8, 11, 12, 13}[r.Intn(6)], 0}))
+			}
+			if r.Intn(2) == 0 && len(body) > 28 {
+				about := udp(out, lo+r.Intn(5), far, r.Intn(9), "").raw()
+				about = resum(put(about, 9, string([]byte{byte(proto)})))
+				p.body = put(p.body, 8, about[:20])
+			}
 			p = p.sealed()
 		}
 		tally(t, b, side, p.raw())

@@ -8,10 +8,12 @@ import (
 	"testing"
 
 	"gateway/api"
+	"gateway/gateway"
 )
 
-// A second telling of P6 to P12, by other means than the program's, which long random walks are held against.
+// A second telling of P6 to P14, by other means than the program's, which long random walks are held against.
 
+// Of ICMP from is an echo's number, and to a reply's.
 type ends struct {
 	proto, src, from, dst, to int
 }
@@ -26,6 +28,7 @@ type teller struct {
 	now    int
 	asked  map[ends]*known
 	counts [api.Reasons]int
+	errors int
 }
 
 // owner is who has an outer port: its address and port, and -1 if nobody has.
@@ -56,6 +59,9 @@ func (w *teller) move(e ends, inside bool, flags int) {
 	k := w.asked[e]
 	has := func(f int) bool { return flags&f == f }
 	ticks := 30
+	if e.proto == api.ICMP {
+		ticks = 10
+	}
 	if e.proto == api.TCP {
 		switch {
 		case has(rst):
@@ -90,7 +96,7 @@ func (w *teller) from(side int, e ends, flags int) (int, int, ends) {
 		return api.Sent, api.Inside, ends{e.proto, e.src, e.from, src, from}
 	}
 	src, from := w.owner(e.proto, e.to)
-	if e.dst == out && src < 0 {
+	if e.dst == out && (src < 0 || e.proto == api.ICMP) {
 		return api.Unasked, 0, ends{}
 	}
 	if w.asked[e] == nil {
@@ -119,6 +125,23 @@ func (w *teller) from(side int, e ends, flags int) (int, int, ends) {
 	}
 	w.move(back, false, flags)
 	return api.Sent, api.Inside, ends{e.proto, out, port, src, from}
+}
+
+// trouble tells what becomes of an error, and to which address and about what it goes out.
+func (w *teller) trouble(side, dst int, about ends) (int, int, ends) {
+	if side == api.Outside {
+		src, from := w.owner(about.proto, about.from)
+		inner := ends{about.proto, src, from, about.dst, about.to}
+		if about.src != out || w.asked[inner] == nil {
+			return api.Unasked, 0, ends{}
+		}
+		return api.Sent, src, inner
+	}
+	k := w.asked[ends{about.proto, about.dst, about.to, about.src, about.from}]
+	if dst == out || k == nil {
+		return api.Unasked, 0, ends{}
+	}
+	return api.Sent, dst, ends{about.proto, about.src, about.from, out, k.port}
 }
 
 func (w *teller) tick(n int) {
@@ -152,21 +175,33 @@ func (w *teller) show() string {
 }
 
 func (e ends) packet(flags int, data string) packet {
-	if e.proto == api.TCP {
+	switch {
+	case e.proto == api.TCP:
 		return tcp(e.src, e.from, e.dst, e.to, flags)
+	case e.proto == api.ICMP && (e.dst == far || e.dst == far+1 || e.dst == out && e.src>>24 == net>>24):
+		return icmp(8, e.src, e.dst, e.from, data)
+	case e.proto == api.ICMP:
+		return icmp(0, e.src, e.dst, e.to, data)
 	}
 	return udp(e.src, e.from, e.dst, e.to, data)
 }
 
 // anyEnds are ends by chance: mostly nobody asked for what goes between them.
 func anyEnds(r *rand.Rand, ports int) (int, ends) {
-	proto := []int{api.TCP, api.UDP}[r.Intn(2)]
+	proto := []int{api.TCP, api.UDP, api.ICMP}[r.Intn(3)]
 	a, p := far+r.Intn(2), 53+r.Intn(2)
-	if r.Intn(3) == 0 {
-		return api.Outside, ends{proto, a, p, out, lo - 1 + r.Intn(ports+2)}
+	port := lo - 1 + r.Intn(ports+2)
+	if proto == api.ICMP {
+		p = 0
 	}
-	if r.Intn(2) == 0 {
-		a, p = out, lo-1+r.Intn(ports+2)
+	if r.Intn(3) == 0 {
+		return api.Outside, ends{proto, a, p, out, port}
+	}
+	if proto != api.ICMP && r.Intn(2) == 0 {
+		a, p = out, port
+	}
+	if proto == api.ICMP && r.Intn(9) == 0 {
+		a = out
 	}
 	return api.Inside, ends{proto, net + 1 + r.Intn(3), 9 + r.Intn(2), a, p}
 }
@@ -188,6 +223,51 @@ func (w *teller) askedEnds(r *rand.Rand) (int, ends) {
 	return api.Inside, e
 }
 
+// hears: an error comes at the other side about a packet that came in at a side: mostly about what went out for it, so that somebody asked for it, and else about what came in.
+func (w *teller) hears(t *testing.T, r *rand.Rand, b *gateway.Box, side int, raw string, e ends) {
+	t.Helper()
+	side = 1 - side
+	if src, from := w.owner(e.proto, e.to); side == api.Inside && src >= 0 && r.Intn(6) > 0 {
+		e.dst, e.to = src, from
+		raw = changed(raw, e.src, e.sent(), e.dst, e.to)
+	} else if k := w.asked[e]; side == api.Outside && k != nil && r.Intn(6) > 0 {
+		e.src, e.from = out, k.port
+		raw = changed(raw, e.src, e.sent(), e.dst, e.to)
+	}
+	raw = raw[:28+r.Intn(len(raw)-27)]
+	src, dst := far+r.Intn(3), out
+	if side == api.Inside {
+		src, dst = net+r.Intn(9), far+r.Intn(3)
+		if r.Intn(9) == 0 {
+			dst = out
+		}
+	}
+	kind := []int{3, 11, 12}[r.Intn(3)]
+	what, to, o := w.trouble(side, dst, e)
+	w.counts[what]++
+	var want []api.Frame
+	if what == api.Sent && side == api.Inside {
+		want = goes(api.Outside, trouble(kind, out, to, changed(raw, o.src, o.sent(), o.dst, o.to)))
+	} else if what == api.Sent {
+		want = goes(api.Inside, trouble(kind, src, to, changed(raw, o.src, o.sent(), o.dst, o.to)))
+	}
+	receive(t, b, side, trouble(kind, src, dst, raw).raw(), what, want)
+	if what == api.Sent {
+		w.errors++
+	}
+	if got := b.Show(); got != w.show() {
+		t.Fatalf("Show = %q, want %q", got, w.show())
+	}
+}
+
+// sent is the port that a packet is from; of ICMP the number, whose ever it is.
+func (e ends) sent() int {
+	if e.proto == api.ICMP && e.from == 0 {
+		return e.to
+	}
+	return e.from
+}
+
 func walk(t *testing.T, seed int64, ports, steps int) {
 	r := rand.New(rand.NewSource(seed))
 	b := box(t, ports)
@@ -205,6 +285,10 @@ func walk(t *testing.T, seed int64, ports, steps int) {
 		}
 		flags := flagSets[r.Intn(len(flagSets))]
 		data := "data"[:r.Intn(5)]
+		if r.Intn(4) == 0 {
+			w.hears(t, r, b, side, e.packet(flags, data).raw(), e)
+			continue
+		}
 		what, outSide, o := w.from(side, e, flags)
 		w.counts[what]++
 		var want []api.Frame
@@ -219,11 +303,11 @@ func walk(t *testing.T, seed int64, ports, steps int) {
 	if counts(b) != w.counts {
 		t.Fatalf("seed %d: counts %v, want %v", seed, counts(b), w.counts)
 	}
-	t.Log(ports, w.counts)
+	t.Log(ports, w.counts, w.errors)
 }
 
 func TestWalks(t *testing.T) {
 	for seed := range 40 {
-		walk(t, int64(seed), 1+seed%6, 600)
+		walk(t, int64(seed), 1+seed%6, 900)
 	}
 }

@@ -26,7 +26,7 @@ type End struct {
 	Address, Port int
 }
 
-// Datagram is a whole datagram: the ends it goes between, and its message. Of ICMP the ends' ports are 0.
+// Datagram is a whole datagram: the ends it goes between, and its message. Of ICMP whoever sends an echo or gets a reply has its number as the port; other ports are 0.
 type Datagram struct {
 	Proto    int
 	From, To End
@@ -41,10 +41,11 @@ func Whole(p Packet) Datagram {
 		To:      End{Address: p.Dst},
 		Message: p.Body,
 	}
-	if p.Proto != api.ICMP {
-		d.From.Port = Word(p.Body, fromAt)
-		d.To.Port = Word(p.Body, toAt)
+	if p.Proto == api.ICMP {
+		return d.numbered()
 	}
+	d.From.Port = Word(p.Body, fromAt)
+	d.To.Port = Word(p.Body, toAt)
 	return d
 }
 
@@ -79,12 +80,20 @@ func (d Datagram) Flags() int {
 	return Byte(d.Message, tcpFlagsAt)
 }
 
-// Between makes the datagram of TCP or UDP that carries the same between other ends.
+// Between makes the datagram that carries the same between other ends. (An ICMP error: see Retold.)
 func (d Datagram) Between(from, to End) Datagram {
-	message := PutWord(d.Message, fromAt, from.Port)
-	message = PutWord(message, toAt, to.Port)
+	message := d.ported(from, to)
 	other := Datagram{Proto: d.Proto, From: from, To: to, Message: message}
 	return other.sealed()
+}
+
+// ported is the message with the ports of other ends.
+func (d Datagram) ported(from, to End) string {
+	if d.Proto == api.ICMP {
+		return PutWord(d.Message, numberAt, d.number(from, to))
+	}
+	message := PutWord(d.Message, fromAt, from.Port)
+	return PutWord(message, toAt, to.Port)
 }
 
 func (d Datagram) sealed() Datagram {
@@ -93,13 +102,17 @@ func (d Datagram) sealed() Datagram {
 	}
 	at := d.sumAt()
 	d.Message = PutWord(d.Message, at, 0)
-	sum := maxWord - d.sum()
-	if sum == 0 && d.Proto == api.UDP {
-		// 0 would say that there is no checksum.
-		sum = maxWord
-	}
-	d.Message = PutWord(d.Message, at, sum)
+	d.Message = PutWord(d.Message, at, d.checksum(d.sum()))
 	return d
+}
+
+// checksum is what makes a checksum of the folded sum of the other words.
+func (d Datagram) checksum(sum int) int {
+	if sum == maxWord && d.Proto == api.UDP {
+		// 0 would say that there is none.
+		return maxWord
+	}
+	return maxWord - sum
 }
 
 func (d Datagram) hasSum() bool {
@@ -122,8 +135,11 @@ func (d Datagram) sum() int {
 	if d.Proto == api.ICMP {
 		return message
 	}
-	from := d.From.Address
-	to := d.To.Address
-	addresses := from>>16 + from&maxWord + to>>16 + to&maxWord
+	addresses := d.From.addressWords() + d.To.addressWords()
 	return Fold(message + addresses + d.Proto + len(d.Message))
+}
+
+// addressWords is the sum of the address's two words.
+func (e End) addressWords() int {
+	return e.Address>>16 + e.Address&maxWord
 }

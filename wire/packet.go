@@ -4,6 +4,9 @@ import "gateway/api"
 
 const headerBytes = 20
 
+// Version 4, and a header of five words.
+const firstByte = 69
+
 // Where the parts of a header lie.
 const (
 	lengthAt = 2
@@ -38,13 +41,7 @@ func Parse(raw string) (Packet, int) {
 	if len(raw) <= headerBytes || len(raw) > api.MaxPacket {
 		return Packet{}, api.Malformed
 	}
-	p := Packet{
-		header: raw[:headerBytes],
-		Src:    Address(raw, srcAt),
-		Dst:    Address(raw, dstAt),
-		Proto:  Byte(raw, protoAt),
-		Body:   raw[headerBytes:],
-	}
+	p := read(raw)
 	fault := p.fault()
 	if fault != api.Sent {
 		return Packet{}, fault
@@ -52,8 +49,22 @@ func Parse(raw string) (Packet, int) {
 	return p, api.Sent
 }
 
+// read takes a header and what lies behind it, whether they are right or not.
+func read(raw string) Packet {
+	if len(raw) < headerBytes {
+		return Packet{}
+	}
+	return Packet{
+		header: raw[:headerBytes],
+		Src:    Address(raw, srcAt),
+		Dst:    Address(raw, dstAt),
+		Proto:  Byte(raw, protoAt),
+		Body:   raw[headerBytes:],
+	}
+}
+
 func (p Packet) fault() int {
-	if Byte(p.header, 0) != 69 || Word(p.header, lengthAt) != headerBytes+len(p.Body) {
+	if Byte(p.header, 0) != firstByte || Word(p.header, lengthAt) != headerBytes+len(p.Body) {
 		return api.Malformed
 	}
 	if Word(p.header, placeAt)&mustBeZero != 0 {
@@ -78,10 +89,14 @@ func (p Packet) Piece() bool {
 
 // Onward makes the packet that goes out for this one, with other addresses and another body of the same length.
 func (p Packet) Onward(src, dst int, body string) string {
-	header := PutAddress(p.header, srcAt, src)
+	header := PutWord(p.header, livesAt, Word(p.header, livesAt)-oneLife)
+	return addressed(header, src, dst) + body
+}
+
+// addressed makes the header with other addresses, and the checksum that it then has.
+func addressed(header string, src, dst int) string {
+	header = PutAddress(header, srcAt, src)
 	header = PutAddress(header, dstAt, dst)
-	header = PutWord(header, livesAt, Word(header, livesAt)-oneLife)
 	header = PutWord(header, sumAt, 0)
-	header = PutWord(header, sumAt, maxWord-Sum(header))
-	return header + body
+	return PutWord(header, sumAt, maxWord-Sum(header))
 }
