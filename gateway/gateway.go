@@ -5,16 +5,18 @@ import (
 	"strconv"
 
 	"gateway/api"
+	"gateway/pieces"
 	"gateway/sessions"
 	"gateway/wire"
 )
 
 // Box is a box with what it knows.
 type Box struct {
-	config api.Config
-	time   int
-	counts [api.Reasons]int
-	table  sessions.Table
+	config  api.Config
+	time    int
+	counts  [api.Reasons]int
+	table   sessions.Table
+	waiting pieces.Store
 }
 
 // New makes a box that knows nobody (P3).
@@ -44,6 +46,7 @@ func (b *Box) Tick(n int) api.Errno {
 	}
 	b.time += n
 	b.table.Expire(b.time)
+	b.waiting.Expire(b.time)
 	return api.OK
 }
 
@@ -55,17 +58,24 @@ func (b *Box) Count(what int) int {
 	return b.counts[what]
 }
 
-// Show tells what the box knows (P12).
+// Show tells what the box knows (P12, P16).
 func (b *Box) Show() string {
 	if b == nil {
 		return ""
 	}
-	lines := b.table.Show()
-	return "time " + strconv.Itoa(b.time) + "\n" + lines
+	text := "time " + strconv.Itoa(b.time) + "\n"
+	text += b.table.Show()
+	text += b.waiting.Show()
+	return text
 }
 
 // Held tells how many bytes are held, of all and of a source (P16).
-func (b *Box) Held(src int) (int, int) { return 0, 0 }
+func (b *Box) Held(src int) (int, int) {
+	if b == nil {
+		return 0, 0
+	}
+	return b.waiting.Held(src)
+}
 
 func (b *Box) handle(side int, raw string) (int, []api.Frame) {
 	if side != api.Inside && side != api.Outside {
@@ -81,16 +91,26 @@ func (b *Box) handle(side int, raw string) (int, []api.Frame) {
 	if p.Proto != api.ICMP && p.Proto != api.TCP && p.Proto != api.UDP {
 		return api.BadProto, nil
 	}
-	if p.Piece() {
-		// Nothing is put together yet: there is no room for pieces.
-		return api.NoRoom, nil
+	if !p.Piece() {
+		return b.pass(side, []wire.Packet{p})
 	}
-	came := wire.Whole(p)
+	what, packets := b.waiting.Take(side, p, b.config, b.time)
+	if what != api.Sent {
+		return what, nil
+	}
+	return b.pass(side, packets)
+}
+
+// pass passes on the datagram that packets are together, or drops it.
+func (b *Box) pass(side int, packets []wire.Packet) (int, []api.Frame) {
+	came := wire.Whole(packets)
 	w := b.route(side, came)
 	if w.what != api.Sent {
 		return w.what, nil
 	}
-	goes := w.datagram
-	out := p.Onward(goes.From.Address, goes.To.Address, goes.Message)
-	return api.Sent, []api.Frame{{Side: w.side, Raw: out}}
+	frames := []api.Frame{}
+	for _, raw := range w.datagram.Onward(packets) {
+		frames = append(frames, api.Frame{Side: w.side, Raw: raw})
+	}
+	return api.Sent, frames
 }

@@ -8,7 +8,7 @@ import (
 // trouble passes an ICMP error on to whoever sent the packet that it is about.
 func (b *Box) trouble(side int, d wire.Datagram) way {
 	about, formed := d.About()
-	if !formed {
+	if d.InPieces || !formed {
 		return way{what: api.BadBody}
 	}
 	if side == api.Inside {

@@ -42,7 +42,7 @@ func TestP1NoBox(t *testing.T) {
 		none.Tick(1)
 		none.Count(0)
 		none.Show()
-		none.Held(net + 1)
+		held(t, none, net+1, 0, 0)
 	}
 }
 

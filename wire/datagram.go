@@ -26,27 +26,44 @@ type End struct {
 	Address, Port int
 }
 
-// Datagram is a whole datagram: the ends it goes between, and its message. Of ICMP whoever sends an echo or gets a reply has its number as the port; other ports are 0.
+// Datagram is a whole datagram: the ends it goes between, its message, and whether that came in pieces. Of ICMP whoever sends an echo or gets a reply has its number as the port; other ports are 0.
 type Datagram struct {
 	Proto    int
 	From, To End
 	Message  string
+	InPieces bool
 }
 
-// Whole reads the datagram that a packet is by itself.
-func Whole(p Packet) Datagram {
-	d := Datagram{
-		Proto:   p.Proto,
-		From:    End{Address: p.Src},
-		To:      End{Address: p.Dst},
-		Message: p.Body,
+// Whole reads the datagram that packets are together, all of its pieces by where they lie or one packet that is no piece.
+func Whole(packets []Packet) Datagram {
+	d := Datagram{InPieces: len(packets) > 1}
+	for _, p := range packets {
+		d.Proto = p.Proto
+		d.From.Address = p.Src
+		d.To.Address = p.Dst
+		d.Message += p.Body
 	}
-	if p.Proto == api.ICMP {
+	if d.Proto == api.ICMP {
 		return d.numbered()
 	}
-	d.From.Port = Word(p.Body, fromAt)
-	d.To.Port = Word(p.Body, toAt)
+	d.From.Port = Word(d.Message, fromAt)
+	d.To.Port = Word(d.Message, toAt)
 	return d
+}
+
+// Onward makes what goes out for the packets that the datagram came in: each has the part of the message that lies where its body lay.
+func (d Datagram) Onward(packets []Packet) []string {
+	list := []string{}
+	rest := d.Message
+	for _, p := range packets {
+		size := len(p.Body)
+		if size > len(rest) {
+			size = len(rest)
+		}
+		list = append(list, p.onward(d.From.Address, d.To.Address, rest[:size]))
+		rest = rest[size:]
+	}
+	return list
 }
 
 // Fault is what speaks against the message, or api.Sent if nothing does.
@@ -82,9 +99,10 @@ func (d Datagram) Flags() int {
 
 // Between makes the datagram that carries the same between other ends. (An ICMP error: see Retold.)
 func (d Datagram) Between(from, to End) Datagram {
-	message := d.ported(from, to)
-	other := Datagram{Proto: d.Proto, From: from, To: to, Message: message}
-	return other.sealed()
+	d.Message = d.ported(from, to)
+	d.From = from
+	d.To = to
+	return d.sealed()
 }
 
 // ported is the message with the ports of other ends.

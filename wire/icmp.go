@@ -71,7 +71,7 @@ func (d Datagram) About() (Datagram, bool) {
 	if !p.tellable() {
 		return Datagram{}, false
 	}
-	return Whole(p), true
+	return Whole([]Packet{p}), true
 }
 
 func (d Datagram) told() Packet {
@@ -98,7 +98,7 @@ func (d Datagram) Retold(src, dst int, from, to End) Datagram {
 		return d
 	}
 	p := d.told()
-	whole := Whole(p)
+	whole := Whole([]Packet{p})
 	about := whole.shifted(from, to)
 	d.From.Address = src
 	d.To.Address = dst

@@ -10,6 +10,7 @@ const firstByte = 69
 // Where the parts of a header lie.
 const (
 	lengthAt = 2
+	nameAt   = 4
 	placeAt  = 6
 	livesAt  = 8
 	protoAt  = 9
@@ -24,6 +25,9 @@ const (
 	more       = 1 << 13
 	place      = 1<<13 - 1
 )
+
+// The units in which it tells that.
+const placeUnit = 8
 
 // The time to live is the high byte of its word.
 const oneLife = 1 << 8
@@ -73,7 +77,7 @@ func (p Packet) fault() int {
 	if Sum(p.header) != maxWord {
 		return api.BadSum
 	}
-	if Word(p.header, placeAt)&more != 0 && len(p.Body)%8 != 0 {
+	if p.More() && len(p.Body)%placeUnit != 0 {
 		return api.Malformed
 	}
 	if Byte(p.header, livesAt) <= 1 {
@@ -82,13 +86,34 @@ func (p Packet) fault() int {
 	return api.Sent
 }
 
-// Piece tells whether the packet is only a piece of a datagram.
-func (p Packet) Piece() bool {
-	return Word(p.header, placeAt)&(more|place) != 0
+// Number is the number by which the pieces of a datagram are known.
+func (p Packet) Number() int {
+	return Word(p.header, nameAt)
 }
 
-// Onward makes the packet that goes out for this one, with other addresses and another body of the same length.
-func (p Packet) Onward(src, dst int, body string) string {
+// More tells whether the datagram goes on behind this packet.
+func (p Packet) More() bool {
+	return Word(p.header, placeAt)&more != 0
+}
+
+// Place is where in the datagram the body begins, in bytes.
+func (p Packet) Place() int {
+	units := Word(p.header, placeAt) & place
+	return units * placeUnit
+}
+
+// End is where in the datagram the body ends, in bytes.
+func (p Packet) End() int {
+	return p.Place() + len(p.Body)
+}
+
+// Piece tells whether the packet is only a piece of a datagram.
+func (p Packet) Piece() bool {
+	return p.More() || p.Place() != 0
+}
+
+// onward makes the packet that goes out for this one, with other addresses and another body of the same length.
+func (p Packet) onward(src, dst int, body string) string {
 	header := PutWord(p.header, livesAt, Word(p.header, livesAt)-oneLife)
 	return addressed(header, src, dst) + body
 }
